@@ -670,17 +670,8 @@ func TestTextsThatDifferInOneByte(t *testing.T) {
 		if !ok {
 			t.Fatalf("no text of %v", w)
 		}
-		for i := range len(s) + 1 {
-			if i < len(s) {
-				expectRead(t, s[:i]+s[i+1:])
-			}
-			for c := range 256 {
-				sign := string([]byte{byte(c)})
-				expectRead(t, s[:i]+sign+s[i:])
-				if i < len(s) {
-					expectRead(t, s[:i]+sign+s[i+1:])
-				}
-			}
+		for near := range textsNear(s) {
+			expectRead(t, near)
 		}
 	}
 }
@@ -888,14 +879,7 @@ func TestJoinedWaterwaysShareNoMemory(t *testing.T) {
 func TestListsOfLocksAreNew(t *testing.T) {
 	w := waterwayOf(6)
 	for _, way := range [][2]int{{0, lengthOf(w)}, {lengthOf(w), 0}} {
-		first, _ := impl.LocksBetween(w, way[0], way[1])
-		want := slices.Clone(first)
-		for i := range first[:cap(first)] {
-			first[:cap(first)][i] = -1
-		}
-		if again, ok := impl.LocksBetween(w, way[0], way[1]); !ok || len(again) != 5 || !slices.Equal(again, want) {
-			t.Error("shared", first, again)
-		}
+		expectNewInts(t, 5, func() ([]int, bool) { return impl.LocksBetween(w, way[0], way[1]) })
 	}
 	s, _ := impl.WaterwayText(w)
 	v, _ := impl.ParseWaterway(s)
